@@ -1,0 +1,1 @@
+"""Schedulers of processes that share one processor and two locks."""
