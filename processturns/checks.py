@@ -1,5 +1,7 @@
 """Checks of numbers, which the other files share."""
 
+from processturns.errors import BadNumber
+
 
 def is_number(value, least, greatest):
     """Return True if the value is an integer within the bounds, else False."""
@@ -14,3 +16,9 @@ def is_row(value, many, least, greatest):
     if not isinstance(value, tuple) or len(value) != many:
         return False
     return all(is_number(item, least, greatest) for item in value)
+
+
+def check_number(value, least, greatest):
+    """Raise BadNumber if the value is not an integer within the bounds."""
+    if not is_number(value, least, greatest):
+        raise BadNumber(f"this is no integer from {least} to {greatest}")

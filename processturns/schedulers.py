@@ -5,6 +5,8 @@ from itertools import permutations
 from processturns.checks import is_number, is_row
 from processturns.errors import BadScheduler
 
+MOST_IN_FAMILY = 40
+
 
 def _first_word(value):
     """Return the word that a tuple begins with, "" if the value has none."""
@@ -94,6 +96,20 @@ def is_scheduler(value, size):
         return False
     fits = KINDS[word]
     return fits(value, size)
+
+
+def check_scheduler(value, size):
+    """Raise BadScheduler if the value is no scheduler for the size."""
+    if not is_scheduler(value, size):
+        raise BadScheduler("this is no scheduler for the size")
+
+
+def check_family(value, size):
+    """Raise BadScheduler if the value is no family of schedulers for the size."""
+    if not isinstance(value, list) or not 1 <= len(value) <= MOST_IN_FAMILY:
+        raise BadScheduler("a family is a list of 1 to 40 schedulers")
+    for item in value:
+        check_scheduler(item, size)
 
 
 def plain_family(size):
