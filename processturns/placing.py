@@ -17,13 +17,17 @@ def places_of(order):
 class OrderChooser:
     """The best place that counts runs.
 
-    The memory is the one that ran last if it was ready after it, else None.
+    The memory is the one that ran last if it was ready after it, else None; always
+    None if that one never counts for what is chosen later.
     """
 
     def __init__(self, order, taking, rule):
         self.places = places_of(order)
         self.taking = taking
         self.rule = rule
+        # With taking it counts among equal places alone. Plain places differ. So do lent
+        # ones of those ready: each that waits lends to one that is ready at most.
+        self.remembers = not taking or rule[0] == "top"
 
     def fresh(self):
         """Return that nobody ran."""
@@ -50,7 +54,7 @@ class OrderChooser:
 
     def settled(self, memory, who, word, woken):
         """Return the memory at the end of the unit."""
-        return None if word in GONE else who
+        return who if self.remembers and word not in GONE else None
 
     def places_that_count(self, posts, holders):
         """Return the list of the places that count for the processes by the rule."""

@@ -160,7 +160,8 @@ class PlainOrder(PlainKind):
             self.last_ready = who if self.hall.word[who] == "ready" else None
 
     def key(self):
-        return self.last_ready
+        # Without top, two that are ready never have equal places, so that one that takes looks at places alone.
+        return self.last_ready if self.taking == 0 or self.rule[0] == "top" else None
 
 
 class PlainRounds(PlainFirst):

@@ -1,6 +1,7 @@
 """Point [5], as far as states go, and the interface of processturns/games.py."""
 
 import unittest
+from itertools import permutations
 from unittest import mock
 
 from counted import hall_by_number, schedulers_of, short_halls, some
@@ -11,7 +12,9 @@ from processturns.errors import BadNumber, BadScheduler, NotFound
 from processturns.games import all_states, count_states
 from processturns.halls import hall_locks
 from processturns.machine import machine_for
-from values import NO_INTEGERS, NO_SCHEDULERS
+from processturns.posts import ready_slots
+from processturns.running import run
+from values import GIVE_0, NO_INTEGERS, NO_SCHEDULERS, TAKE_0
 
 FIRST, LAST = ("first",), ("last",)
 PLAIN = ("plain",)
@@ -47,8 +50,33 @@ class CountStatesTest(unittest.TestCase):
         self.assertEqual(count_states(("shares", (1, 1)), 2, 0), 5)
 
     def test_what_no_longer_counts_is_forgotten(self):
-        # Nobody; 0 ready, having run; 1 ready, having run or after 0 left; both, 0 having run.
-        self.assertEqual(count_states(("order", (0, 1), 1, PLAIN), 2, 0), 5)
+        # One that keeps: nobody; 0 or 1 ready, having run or after the other left; both, 0 or 1 having run.
+        self.assertEqual(count_states(("order", (0, 1), 0, PLAIN), 2, 0), 7)
+
+    def test_one_that_ran_last_and_never_counts_is_forgotten(self):
+        # Plain places differ, and so do lent ones of those ready: each process is away or ready.
+        for size in (1, 2, 3):
+            for order in permutations(range(size)):
+                for rule in (PLAIN, ("lent",)):
+                    self.assertEqual(count_states(("order", order, 1, rule), size, 0), 2 ** size)
+        self.assertEqual(count_states(("order", (1, 0, 2), 1, PLAIN), 3, 0), 8)
+
+    def test_one_that_ran_last_counts_among_equal_places(self):
+        # 1 and, with the lock, 0 are at place 0: 0 runs on if it ran last, else 1, which is better by the order.
+        # With a lock: 0 or 1 holds it, alone or beside the other one; or 0 has given it, and 1 came before.
+        for locks, many in [(0, 5), (1, 5 + 4 + 1)]:
+            self.assertEqual(count_states(("order", (1, 0), 1, ("top", (0, 0))), 2, locks), many)
+        hall = [(0, [TAKE_0, ("work", 2), GIVE_0]), (1, [("work", 1)])]
+        self.assertEqual(run(("order", (1, 0), 1, ("top", (0, 0))), hall, 9), [0, 0, 0, 0, 1, 1, 0])
+        self.assertEqual(run(("order", (1, 0), 1, ("lent",)), hall, 9), [0, 1, 1, 0, 0, 0, 0])
+
+    def test_lent_places_of_those_ready_are_never_equal(self):
+        for order in permutations(range(3)):
+            chooser = chooser_for(("order", order, 1, ("lent",)))
+            for posts, holders, _ in all_states(chooser, 3, 2):
+                counting = chooser.places_that_count(posts, holders)
+                ready = [counting[slot] for slot in ready_slots(posts)]
+                self.assertEqual(len(set(ready)), len(ready), (order, posts, holders))
 
     def test_the_clock_of_raising_counts_while_nobody_is_ready(self):
         # With a quantum of 1 and one queue, nothing else is known than who is ready.
