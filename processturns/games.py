@@ -14,10 +14,22 @@ MOST_STATES = 40000
 
 def count_states(scheduler, size, locks):
     """Return how many states all halls of a size and so many locks lead to."""
-    check_number(size, 1, MOST_SIZE)
-    check_scheduler(scheduler, size)
-    check_number(locks, 0, MOST_LOCKS)
+    check_halls([scheduler], size, locks)
     return len(all_states(chooser_for(scheduler), size, locks))
+
+
+def check_halls(schedulers, size, locks):
+    """Raise the error for the first of the size, the schedulers and the locks that is not valid."""
+    check_number(size, 1, MOST_SIZE)
+    for scheduler in schedulers:
+        check_scheduler(scheduler, size)
+    check_number(locks, 0, MOST_LOCKS)
+
+
+def check_states(many):
+    """Raise NotFound if these are too many states."""
+    if many > MOST_STATES:
+        raise NotFound("there are more than 40000 states")
 
 
 def all_states(chooser, size, locks):
@@ -27,27 +39,27 @@ def all_states(chooser, size, locks):
     unseen = [start]
     while unseen:
         state = unseen.pop()
-        for step in next_steps(chooser, state, locks):
-            after = step[3]
-            if after not in seen:
-                seen[after] = True
-                unseen.append(after)
-        if len(seen) > MOST_STATES:
-            raise NotFound("there are more than 40000 states")
+        for _, _, branches in next_turns(chooser, state, locks):
+            for _, after in branches:
+                if after not in seen:
+                    seen[after] = True
+                    unseen.append(after)
+        check_states(len(seen))
     return list(seen)
 
 
-def next_steps(chooser, state, locks):
+def next_turns(chooser, state, locks):
     """Return the list of what a unit after a state can be, in all halls.
 
-    Each is a tuple (who come, who runs, deed, state after it); nobody has no deed.
+    Each is a tuple (who come, who runs, branches), the branches a list of tuples
+    (deed, state after it); the deed of nobody is None.
     """
-    steps = []
+    turns = []
     for comers in comings(state[0]):
         chosen, who = begun(chooser, state, comers)
-        for deed in deeds_next(chosen, who, locks):
-            steps.append((comers, who, deed, done(chooser, chosen, who, deed)[0]))
-    return steps
+        deeds = deeds_next(chosen, who, locks)
+        turns.append((comers, who, [(deed, done(chooser, chosen, who, deed)[0]) for deed in deeds]))
+    return turns
 
 
 def comings(posts):
