@@ -18,21 +18,19 @@ def left_after(left, holders, who, deed, hold):
     if not hold or who is None:
         return left
     kind, number = deed
-    told = [units - 1 if holders[lock] == who else units for lock, units in enumerate(left)]
-    own = [lock for lock, holder in enumerate(holders) if holder == who]
-    if kind == "give":
-        told[number] = 0
-        own.remove(number)
-    rest = [told[lock] for lock in own]
-    if kind == "take":
-        rest.append(hold)
-    # The locks have to be given one after the other, so the last of two needs two units.
-    if any([units <= place for place, units in enumerate(sorted(rest))]):
-        return None
-    if kind == "take" and holders[number] is not None:
+    told = list(left)
+    for lock, holder in enumerate(holders):
+        if holder == who:
+            told[lock] = 0 if deed == ("give", lock) else told[lock] - 1
+            # Of two locks, the one taken later has more units left, so one unit is enough here.
+            if told[lock] == 0 and deed != ("give", lock):
+                return None
+    if kind != "take":
+        return tuple(told)
+    # Asking in vain is no unit of the program's own.
+    if holders[number] is not None:
         return left
-    if kind == "take":
-        told[number] = hold
+    told[number] = hold
     return tuple(told)
 
 

@@ -7,9 +7,14 @@ many of them each process has done.
 from processturns.posts import with_item
 
 
+def lock_row(program):
+    """Return the row of a program."""
+    return tuple([deed for deed in program if deed[0] in ("take", "give")])
+
+
 def lock_rows(hall):
     """Return the list of the rows of a hall's programs."""
-    return [tuple([deed for deed in program if deed[0] in ("take", "give")]) for _, program in hall]
+    return [lock_row(program) for _, program in hall]
 
 
 def held_along(row):

@@ -1,7 +1,7 @@
 """The machine: a hall with its programs, as it goes on unit by unit."""
 
 from processturns.choosers import chooser_for
-from processturns.posts import WORDS, ready_slots
+from processturns.posts import AWAY, WORDS, ready_slots
 from processturns.units import begun, done, first_state
 
 
@@ -27,6 +27,21 @@ class Machine:
         self.worked[slot] = 0
         self.comings[slot] = comes
         self.finishes[slot] = None
+
+    def is_gone(self, slot):
+        """Return True if a process is away for ever or had no program, else False."""
+        return self.state[0][slot] == AWAY and self.comings[slot] is None
+
+    def marks(self):
+        """Return all that a unit or a new program changes, to go back to it later."""
+        rows = (self.programs, self.reached, self.worked, self.comings, self.finishes)
+        return self.state, self.clock, tuple([list(row) for row in rows])
+
+    def go_back(self, marks):
+        """Be as it was when these marks were returned."""
+        self.state, self.clock, rows = marks
+        copies = [list(row) for row in rows]
+        self.programs, self.reached, self.worked, self.comings, self.finishes = copies
 
     def words(self):
         """Return the list of the words for the processes."""

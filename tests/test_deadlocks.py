@@ -3,11 +3,12 @@
 import unittest
 from itertools import product
 from math import factorial
+from unittest import mock
 
 from counted import PARTS, hall_by_number, schedulers_of, short_halls, some
 from plain_halls import all_orders, plain_units, rows_of_locks
 from plain import PlainHall
-from processturns import deadlocks
+from processturns import deadlocks, games
 from processturns.deadlocks import (
     can_deadlock, can_stick, count_ways, is_ordered, stuck_places, sticking_hall, way_to_deadlock,
 )
@@ -124,6 +125,16 @@ class StickTest(unittest.TestCase):
                 self.assertIs(can_stick(scheduler, size, 2), unit is not None, scheduler)
                 if unit is not None:
                     self.assertEqual(sticking_hall(scheduler, size, 2)[1], unit)
+
+    def test_more_than_the_most_states_are_not_found(self):
+        for most in (16, 17):
+            # First leads to 17 states, none of them with a ring.
+            with mock.patch.object(games, "MOST_STATES", most):
+                if most == 17:
+                    self.assertIs(can_stick(FIRST, 2, 2), False)
+                else:
+                    self.assertRaises(NotFound, can_stick, FIRST, 2, 2)
+                    self.assertRaises(NotFound, sticking_hall, FIRST, 2, 2)
 
     def test_arguments(self):
         for function, locks in [(can_stick, 1), (sticking_hall, 2)]:

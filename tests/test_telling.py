@@ -195,6 +195,13 @@ class FamilyTest(unittest.TestCase):
             [None, 1, None, 0], [1, None, 1, 0], [None, 1, None, 0], [0, 0, 0, None],
         ])
 
+    def test_locks_count(self):
+        family = [("order", (0, 1, 2), 1, PLAIN), ("order", (0, 1, 2), 1, LENT), ("order", (0, 1, 2), 1, ("top", (2, 0)))]
+        self.assertEqual([classes(family, 3, locks) for locks in (0, 1, 2)], [[[0, 1, 2]], [[0, 2], [1]], [[0], [1], [2]]])
+        self.assertEqual(telling_table(family, 3, 0), [[None] * 3] * 3)
+        self.assertEqual(telling_table(family, 3, 1), [[None, 2, None], [2, None, 2], [None, 2, None]])
+        self.assertEqual(telling_table(family, 3, 2), [[None, 2, 1], [2, None, 1], [1, 1, None]])
+
     def test_both_are_as_the_pairs_are(self):
         for size, locks in [(1, 2), (2, 0), (2, 2), (3, 0), (3, 1)]:
             family = some(family_of(size), 13)

@@ -107,6 +107,9 @@ class LongestWaitTest(unittest.TestCase):
                 self.as_by_the_second_way(scheduler, 3, locks, hold)
         for scheduler in [LAST, ("rounds", 1, 1), ("shares", (1, 1, 2)), ("due", (1, 2, 1))]:
             self.as_by_the_second_way(scheduler, 3, 1, 1)
+        # Here it counts that asking in vain is no unit of the program's own.
+        for scheduler, hold in [(("levels", (1,), 3), 2), (("aging", (1, 0, 2), 1), 2), (("rounds", 2, 0), 3)]:
+            self.as_by_the_second_way(scheduler, 3, 1, hold)
 
     def as_by_the_second_way(self, scheduler, size, locks, hold):
         graph = plain_graph(scheduler, size, locks, hold)
